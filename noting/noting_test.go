@@ -10,6 +10,7 @@ import (
 	"gambit/rank"
 	"gambit/start"
 	"gambit/suit"
+	"gambit/trait"
 )
 
 // begun is a layer that notes itself, by whatever function, and the notes that the document gives it.
@@ -19,7 +20,7 @@ type begun struct {
 	notes []int
 }
 
-// layers are all that note themselves: P2.6, P3.5, and In by itself.
+// layers are all that note themselves: P2.6, P3.5, P4.5, and In by itself.
 func layers() []begun {
 	in := func(layer, times int) func(*start.Log) int {
 		return func(l *start.Log) int { return noting.In(l, layer, times) }
@@ -29,6 +30,7 @@ func layers() []begun {
 		{"In five times", in(7, 5), []int{107, 207, 307, 407, 507}},
 		{"rank", rank.Begin, []int{102}},
 		{"suit", suit.Begin, []int{103, 203}},
+		{"trait", trait.Begin, []int{104, 204}},
 	}
 }
 
