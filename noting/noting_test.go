@@ -5,6 +5,7 @@ import (
 	"slices"
 	"testing"
 
+	"gambit/air"
 	"gambit/api"
 	"gambit/noting"
 	"gambit/rank"
@@ -20,7 +21,7 @@ type begun struct {
 	notes []int
 }
 
-// layers are all that note themselves: P2.6, P3.5, P4.5, and In by itself.
+// layers are all that note themselves: P2.6, P3.5, P4.5, P8.2, and In by itself.
 func layers() []begun {
 	in := func(layer, times int) func(*start.Log) int {
 		return func(l *start.Log) int { return noting.In(l, layer, times) }
@@ -31,6 +32,7 @@ func layers() []begun {
 		{"rank", rank.Begin, []int{102}},
 		{"suit", suit.Begin, []int{103, 203}},
 		{"trait", trait.Begin, []int{104, 204}},
+		{"air", air.Begin, []int{108, 208, 308}},
 	}
 }
 
