@@ -8,6 +8,7 @@ import (
 	"gambit/book"
 	"gambit/card"
 	"gambit/earth"
+	"gambit/fire"
 	"gambit/trait"
 )
 
@@ -31,9 +32,14 @@ func TestNoTwoCardsHaveOneName(t *testing.T) {
 	}
 }
 
-// ember is fire's card, as its chapter has it: golem calls it.
+// ember is fire's card: golem calls it.
 func ember() api.Card {
-	return api.Card{Name: "ember", Suit: api.Fire, Kind: api.Unit, Power: 1, Health: 1, Traits: trait.With(0, api.Fast), Token: true}
+	for _, c := range fire.List() {
+		if c.Name == "ember" {
+			return c
+		}
+	}
+	return api.Card{} // no book takes it
 }
 
 // adder is an addition to a book.

@@ -8,6 +8,7 @@ import (
 	"gambit/air"
 	"gambit/api"
 	"gambit/earth"
+	"gambit/fire"
 	"gambit/noting"
 	"gambit/rank"
 	"gambit/start"
@@ -22,7 +23,7 @@ type begun struct {
 	notes []int
 }
 
-// layers are all that note themselves: P2.6, P3.5, P4.5, P8.2, P9.4, and In by itself.
+// layers are all that note themselves: P2.6, P3.5, P4.5, P8.2, P9.4, P10.3, and In by itself.
 func layers() []begun {
 	in := func(layer, times int) func(*start.Log) int {
 		return func(l *start.Log) int { return noting.In(l, layer, times) }
@@ -35,6 +36,7 @@ func layers() []begun {
 		{"trait", trait.Begin, []int{104, 204}},
 		{"air", air.Begin, []int{108, 208, 308}},
 		{"earth", earth.Begin, []int{109, 209, 309}},
+		{"fire", fire.Begin, []int{110, 210, 310}},
 	}
 }
 
