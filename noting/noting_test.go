@@ -14,6 +14,7 @@ import (
 	"gambit/start"
 	"gambit/suit"
 	"gambit/trait"
+	"gambit/void"
 	"gambit/water"
 )
 
@@ -24,7 +25,7 @@ type begun struct {
 	notes []int
 }
 
-// layers are all that note themselves: P2.6, P3.5, P4.5, P8.2, P9.4, P10.3, P11.2, and In by itself.
+// layers are all that note themselves: P2.6, P3.5, P4.5, P8.2, P9.4, P10.3, P11.2, P12.4, and In by itself.
 func layers() []begun {
 	in := func(layer, times int) func(*start.Log) int {
 		return func(l *start.Log) int { return noting.In(l, layer, times) }
@@ -39,6 +40,7 @@ func layers() []begun {
 		{"earth", earth.Begin, []int{109, 209, 309}},
 		{"fire", fire.Begin, []int{110, 210, 310}},
 		{"water", water.Begin, []int{111, 211, 311}},
+		{"void", void.Begin, []int{112, 212, 312}},
 	}
 }
 
