@@ -9,6 +9,7 @@ import (
 	"gambit/api"
 	"gambit/earth"
 	"gambit/fire"
+	"gambit/gold"
 	"gambit/noting"
 	"gambit/rank"
 	"gambit/start"
@@ -25,7 +26,7 @@ type begun struct {
 	notes []int
 }
 
-// layers are all that note themselves: P2.6, P3.5, P4.5, P8.2, P9.4, P10.3, P11.2, P12.4, and In by itself.
+// layers are all that note themselves: P2.6, P3.5, P4.5, P8.2, P9.4, P10.3, P11.2, P12.4, P13.3, and In by itself.
 func layers() []begun {
 	in := func(layer, times int) func(*start.Log) int {
 		return func(l *start.Log) int { return noting.In(l, layer, times) }
@@ -41,6 +42,7 @@ func layers() []begun {
 		{"fire", fire.Begin, []int{110, 210, 310}},
 		{"water", water.Begin, []int{111, 211, 311}},
 		{"void", void.Begin, []int{112, 212, 312}},
+		{"gold", gold.Begin, []int{113, 213, 313}},
 	}
 }
 
