@@ -26,7 +26,7 @@ type begun struct {
 	notes []int
 }
 
-// layers are all that note themselves: P2.6, P3.5, P4.5, P8.2, P9.4, P10.3, P11.2, P12.4, P13.3, and In by itself.
+// layers are all that note themselves and leave the log open (whole, which closes it, has tests of its own): P2.6, P3.5, P4.5, P8.2, P9.4, P10.3, P11.2, P12.4, P13.3, and In by itself.
 func layers() []begun {
 	in := func(layer, times int) func(*start.Log) int {
 		return func(l *start.Log) int { return noting.In(l, layer, times) }
