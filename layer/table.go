@@ -7,6 +7,7 @@ import (
 	"gambit/api"
 	"gambit/effect"
 	"gambit/trait"
+	"gambit/whom"
 )
 
 // table is what lies on the table, by rising stamp, with the features as they are, each at its row's place. Of up to 2,048 things no more than these count.
@@ -47,29 +48,8 @@ func (t table) about(s standing) some {
 
 // isAbout tells whether an effect is about the row i.
 func (t table) isAbout(s standing, i int) bool {
-	own := i == s.row
-	if s.What.Whom == api.Self {
-		return own
-	}
-	if t.rows[i].card.Kind != api.Unit {
-		return false
-	}
-	f, holder := t.fs[i], t.fs[s.row].Holder
-	switch s.What.Whom {
-	case api.Yours:
-		return f.Holder == holder
-	case api.Rest:
-		return f.Holder == holder && !own
-	case api.Theirs:
-		return f.Holder != holder
-	case api.All:
-		return true
-	case api.Dyed:
-		return f.Suit == s.What.Suit
-	case api.With:
-		return trait.Has(f.Traits, s.What.Trait)
-	}
-	return false
+	x := whom.Candidate{Feature: t.fs[i], Unit: t.rows[i].card.Kind == api.Unit, Own: i == s.row}
+	return whom.Is(s.What, t.fs[s.row].Holder, x)
 }
 
 // numbers tells the numbers of the things in rows that are picked out.
